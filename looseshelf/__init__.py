@@ -1,0 +1,1 @@
+"""Rows kept in order on shelves with loose room."""
