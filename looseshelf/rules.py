@@ -13,7 +13,7 @@ def done(rule, pattern, deed):
     check_pattern(pattern)
     wide = len(pattern)
     places = places_of(pattern)
-    if not can_be_done(wide, places, deed):
+    if not can_be_done(wide, len(places), deed):
         raise BadDeed(0)
     moves, laid = after_deed(rule, wide, places, deed)
     return moves, pattern_of(wide, laid)
@@ -26,7 +26,7 @@ def played(rule, wide, deeds):
     told = []
     places = []
     for number, deed in enumerate(deeds):
-        if not can_be_done(wide, places, deed):
+        if not can_be_done(wide, len(places), deed):
             raise BadDeed(number)
         moves, places = after_deed(rule, wide, places, deed)
         told.append(moves)
@@ -64,12 +64,12 @@ def pattern_of(wide, places):
     return "".join(["1" if at in places else "0" for at in range(wide)])
 
 
-def can_be_done(wide, places, deed):
-    """Whether there is such a rank and, for a putting in, a free place."""
+def can_be_done(wide, many, deed):
+    """Whether there is such a rank where so many stand and, for a putting in, a free place."""
     what, rank = deed
     if what == "put":
-        return 0 <= rank <= len(places) and len(places) < wide
-    return what == "take" and 0 <= rank < len(places)
+        return 0 <= rank <= many < wide
+    return what == "take" and 0 <= rank < many
 
 
 def after_deed(rule, wide, places, deed):

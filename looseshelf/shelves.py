@@ -22,7 +22,7 @@ class Shelf:
             raise BadKey("the key stands there already")
         rank = len([other for other in self.ranked if other < key])
         deed = ("put", rank)
-        if not can_be_done(self.wide, self.places, deed):
+        if not can_be_done(self.wide, len(self.places), deed):
             raise BadDeed(0)
         moves, self.places = after_deed(self.rule, self.wide, self.places, deed)
         self.ranked.insert(rank, key)
